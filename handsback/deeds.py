@@ -51,10 +51,14 @@ def holds(number, deeds):
     return last_turns(deeds).get(number, True)
 
 
+def moves_by_stamps(deeds):
+    return [deed for deed in by_stamps(deeds) if isinstance(deed, Move)]
+
+
 def moves_that_hold(deeds):
     """The moves that hold, the earliest stamp first."""
     turned = last_turns(deeds)
-    return [deed for deed in by_stamps(deeds) if isinstance(deed, Move) and turned.get(deed.number, True)]
+    return [move for move in moves_by_stamps(deeds) if turned.get(move.number, True)]
 
 
 def move_to_undo(desk, deeds):

@@ -45,3 +45,22 @@ def tree_of(moves):
 def elsewhere(before, after):
     """The things that are elsewhere in one tree than in the other, by their numbers."""
     return [thing for thing in range(LAST_THING + 1) if before.get(thing) != after.get(thing)]
+
+
+def right_under(tree, upper):
+    """The things right under this one, the greatest number first."""
+    return [thing for thing in sorted(tree, reverse=True) if tree[thing][0] == upper]
+
+
+def rows_within_root(tree):
+    """(number, depth, label) of each thing within the root, each followed by all within it."""
+    rows = []
+    depths = {ROOT: 0}
+    # What waits is taken from the end, so the least number has to lie there.
+    waiting = right_under(tree, ROOT)
+    while len(waiting) > 0:
+        thing = waiting.pop()
+        depths[thing] = depths[tree[thing][0]] + 1
+        rows.append((thing, depths[thing], tree[thing][1]))
+        waiting.extend(right_under(tree, thing))
+    return rows

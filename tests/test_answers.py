@@ -5,7 +5,13 @@ import io
 import unittest
 
 from handsback.desks import answers
-from tests.helper import GREATEST, again, ask, back, begin, flat, last, move, redo, reckon, undo
+from tests.helper import (GREATEST, again, ask, back, begin, deeds, flat, last, meet, move, reckon, redo, same, tell, tree,
+                          undo, would)
+
+# Every call at least once, granted and refused, over several desks.
+ALL_TWELVE = [begin(3), move(0, 5, 0, 1), move(1, 5, 1, 2), tell(0, 1), meet(1, 2), move(2, 6, 5, 3), undo(0), redo(0),
+              back(1, 1), again(1, 1), would(1, 1), tree(0), deeds(2), same(0, 1), meet(0, 2), tree(2), deeds(0), same(0, 2),
+              would(0, 1), tell(99, 0), meet(0, 3), tree(3), deeds(3), same(3, 0), begin(9), begin(1), tree(0), deeds(0)]
 
 
 class Layout(unittest.TestCase):
@@ -14,13 +20,46 @@ class Layout(unittest.TestCase):
         told = [1, 0, 2, 0, 1, 2, 1, 1, 3, 0, 5, 6, 3, 0, 5, 6, 2, 1, 6, 2, 1, 6, 1, -2]
         self.assertEqual(answers(calls), told)
 
+    def test_all_twelve_over_several_desks(self):
+        calls = [1, 2,              # begin
+                 2, 0, 5, 0, 7,     # move: deed 0, stamp (1, 0)
+                 2, 1, 6, 1, 8,     # move: deed 1, stamp (1, 1)
+                 8, 0, 1,           # tell deed 0 to desk 1
+                 2, 1, 9, 5, 3,     # move: deed 2, stamp (2, 1)
+                 10, 1, 11, 1,      # tree, deeds
+                 12, 0, 1,          # same
+                 9, 0, 1,           # meet
+                 12, 0, 1,          # same
+                 7, 0, 0,           # would
+                 3, 0, 0,           # back: deed 3
+                 12, 0, 1,          # same
+                 4, 0, 0,           # again: deed 4
+                 5, 1, 6, 1,        # undo: deed 5, redo: deed 6
+                 12, 1, 0,          # same
+                 10, 0, 11, 0]      # tree, deeds
+        told = [1, 0, 2, 0, 1, 2, 1, 1, 1, 2, 2, 2, 1,
+                7, 2, 5, 1, 7, 9, 2, 3, 7, 3, 0, 1, 1, 1, 2, 1,
+                2, 0, 0, 3, 3, 2, 0, 2, 1, 1,
+                3, 2, 5, 9, 3, 0, 5, 9, 2, 0, 0, 3, 0, 5, 9,
+                2, 2, 9, 2, 2, 9, 2, 0, 1,
+                7, 2, 5, 1, 7, 9, 2, 3, 7, 3, 0, 1, 1, 1, 2, 1]
+        self.assertEqual(answers(calls), told)
+
+    def test_refusals_of_the_last_six(self):
+        self.assertEqual(answers([7, 1, 0, 7, 0, 0, 8, 0, 0, 9, 0, 1, 10, 1, 11, 1, 12, 0, 1, 2, 0, 5, 0, 0, 5, 0, 7, 0, 0]),
+                         [1, -2, 1, -3, 1, -2, 1, -2, 1, -2, 1, -2, 1, -2, 2, 0, 1, 2, 0, 5, 1, -4])
+
+    def test_the_list_of_all_twelve_against_the_reckoning(self):
+        self.assertEqual({call[0] for call in ALL_TWELVE}, set(range(1, 13)))
+        self.assertEqual(ask(*ALL_TWELVE), reckon(ALL_TWELVE))
+
     def test_whole_numbers_in_a_list(self):
-        told = answers(flat([move(0, 5, 0), undo(0), redo(0), redo(0)]))
+        told = answers(flat(ALL_TWELVE))
         self.assertIs(type(told), list)
         self.assertEqual({type(number) for number in told}, {int})
 
     def test_the_list_is_as_it_was_and_answered_alike_twice(self):
-        calls = flat([begin(2), move(0, 5, 0, 1), move(1, 5, 1, 2), undo(0), redo(0), back(1, 1), again(1, 1)])
+        calls = flat(ALL_TWELVE)
         kept = list(calls)
         first = answers(calls)
         self.assertEqual(calls, kept)
@@ -28,8 +67,9 @@ class Layout(unittest.TestCase):
         self.assertEqual(calls, kept)
 
     def test_nothing_is_kept_from_one_list_to_the_next(self):
-        answers(flat([begin(8), move(7, 5, 0), move(0, 6, 0)]))
-        self.assertEqual(ask(undo(0), move(1, 5, 0), move(0, 5, 6)), [[-3], [-2], [0, 2]])
+        answers(flat([begin(8), move(7, 5, 0), move(0, 6, 0), meet(0, 7)]))
+        self.assertEqual(ask(undo(0), move(1, 5, 0), tree(0), deeds(0), tell(0, 0), meet(0, 0), move(0, 5, 6)),
+                         [[-3], [-2], [0], [0], [-2], [0, 0, 0], [0, 2]])
 
     def test_what_is_given_back_is_not_kept(self):
         calls = flat([move(0, 5, 0), undo(0)])
@@ -40,7 +80,7 @@ class Layout(unittest.TestCase):
     def test_nothing_is_printed(self):
         out, err = io.StringIO(), io.StringIO()
         with contextlib.redirect_stdout(out), contextlib.redirect_stderr(err):
-            answers(flat([move(0, 5, 0), undo(0), redo(0), begin(0)]))
+            answers(flat(ALL_TWELVE))
         self.assertEqual((out.getvalue(), err.getvalue()), ("", ""))
 
     def test_two_hundred_calls(self):
@@ -48,6 +88,11 @@ class Layout(unittest.TestCase):
         told = ask(*calls)
         self.assertEqual(told, reckon(calls))
         self.assertEqual(told[-2:], [[-5], [-3]])
+
+    def test_the_longest_answers(self):
+        moves = [move(0, thing, 0) for thing in range(2, 64)]
+        rows = ask(begin(2), *moves, meet(0, 1), *[tree(1)] * 68, *[deeds(1)] * 68)
+        self.assertEqual([len(row) for row in rows[64:]], [187] * 68 + [125] * 68)
 
     def test_the_deepest_tree(self):
         calls = [move(0, 2, 0)] + [move(0, thing, thing - 1) for thing in range(3, 64)]

@@ -3,7 +3,8 @@
 import itertools
 import unittest
 
-from handsback.deeds import Move, Turn, by_stamps, holds, move_to_redo, move_to_undo, moves_that_hold, stamp_for
+from handsback.deeds import (Move, Turn, by_stamps, holds, move_to_redo, move_to_undo, moves_by_stamps, moves_that_hold,
+                             stamp_for)
 
 
 def put(number, count, desk):
@@ -48,6 +49,12 @@ class Holding(unittest.TestCase):
 
     def test_the_earliest_stamp_first(self):
         self.assertEqual(numbers(moves_that_hold([put(0, 3, 0), put(1, 1, 1), put(2, 3, 1), put(3, 2, 2)])), [1, 3, 0, 2])
+
+    def test_all_moves_whether_or_not_they_hold(self):
+        deeds = [put(0, 2, 0), taken(1, 3, 0, 0), put(2, 1, 1), redone(3, 5, 1, 2), put(4, 1, 0)]
+        for order in itertools.permutations(deeds):
+            self.assertEqual(numbers(moves_by_stamps(order)), [4, 2, 0])
+            self.assertEqual(numbers(moves_that_hold(order)), [4, 2])
 
 
 class Choices(unittest.TestCase):

@@ -91,6 +91,58 @@ class Language(unittest.TestCase):
             if isinstance(node, ast.FunctionDef) and node.name not in OWN_DOUBLE:
                 self.assertFalse(hasattr(builtins, node.name) or node.name.startswith("_"), place)
 
+    def test_each_name_once_at_the_top_and_no_local_like_an_import(self):
+        for name, source in sources().items():
+            body = ast.parse(source).body
+            imported = [entry.name for node in body if isinstance(node, ast.ImportFrom) for entry in node.names]
+            classes = [node.name for node in body if isinstance(node, ast.ClassDef)]
+            defs = [node.name for node in body if isinstance(node, ast.FunctionDef)]
+            given = [node.targets[0].id for node in body if isinstance(node, ast.Assign)]
+            bound = imported + classes + defs + given
+            self.assertEqual(sorted(set(bound)), sorted(bound), name)
+            for function in (node for node in ast.walk(ast.parse(source)) if isinstance(node, ast.FunctionDef)):
+                local = {node.id for node in ast.walk(function)
+                         if isinstance(node, ast.Name) and isinstance(node.ctx, ast.Store)}
+                local |= {node.arg for node in ast.walk(function) if isinstance(node, ast.arg)}
+                self.assertEqual(local & set(bound), set(), f"{name}: {function.name}")
+
+    def test_files_draw_from_one_another_one_way(self):
+        order = ["__init__.py", "deeds.py", "trees.py", "house.py", "desks.py"]
+        self.assertEqual(sorted(order), sorted(sources()))
+        for place, node in nodes():
+            if isinstance(node, ast.ImportFrom):
+                drawn = node.module.split(".")[1] + ".py"
+                self.assertLess(order.index(drawn), order.index(place.split(":")[0]), place)
+
+    def test_is_beside_none_true_and_false_alone(self):
+        for place, node in nodes():
+            if isinstance(node, ast.Compare) and any(isinstance(sign, (ast.Is, ast.IsNot)) for sign in node.ops):
+                ends = [end for end in [node.left, *node.comparators] if isinstance(end, ast.Constant)]
+                self.assertTrue(any(end.value is None or end.value in (True, False) for end in ends), place)
+
+    def test_no_set_and_no_annotation(self):
+        for place, node in nodes():
+            self.assertNotIsInstance(node, ast.Set, place)
+            if isinstance(node, ast.Name):
+                self.assertNotIn(node.id, ("set", "frozenset"), place)
+            if isinstance(node, ast.FunctionDef):
+                self.assertIsNone(node.returns, place)
+            if isinstance(node, ast.arg):
+                self.assertIsNone(node.annotation, place)
+
+    def test_what_is_only_walked_is_walked_at_once(self):
+        lazy = ("zip", "enumerate", "reversed", "range")
+        for name, source in sources().items():
+            walked = [node.iter for node in ast.walk(ast.parse(source)) if isinstance(node, (ast.For, ast.comprehension))]
+            made = [node for node in ast.walk(ast.parse(source)) if isinstance(node, ast.Call)
+                    and isinstance(node.func, ast.Name) and node.func.id in lazy]
+            self.assertLessEqual({node.lineno for node in made}, {node.lineno for node in walked}, name)
+
+    def test_no_sign_of_percent_within_a_text(self):
+        for place, node in nodes():
+            if isinstance(node, ast.Constant) and isinstance(node.value, str):
+                self.assertNotIn(chr(37), node.value, place)
+
     def test_methods_and_values_have_names_of_their_own(self):
         methods = {entry.name for place, node in nodes() if isinstance(node, ast.ClassDef)
                    for entry in node.body if isinstance(entry, ast.FunctionDef)}

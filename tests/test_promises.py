@@ -1,60 +1,10 @@
-"""Promises 1, 2 and 3, on written lists of calls and on many made ones."""
+"""Promises 1, 2 and 3 where each desk knows its own deeds alone, on written lists of calls and on many made ones."""
 
 import random
 import unittest
 
-from tests.helper import (GREATEST, MOST_LABEL, again, ask, assert_tree, back, begin, last, move, plain_tree, reckon,
-                          redo, undo)
-
-
-def some_move(chance, desk, things=6):
-    return move(desk, chance.randint(2, 1 + things), chance.randint(0, 1 + things), chance.randint(0, 2))
-
-
-def some_call(chance, desks, deeds):
-    desk = chance.randrange(desks)
-    kind = chance.choice("mmmmbbaauuurrr")
-    if kind == "m":
-        return some_move(chance, desk)
-    if kind == "b":
-        return back(desk, chance.randrange(deeds + 1))
-    if kind == "a":
-        return again(desk, chance.randrange(deeds + 1))
-    return undo(desk) if kind == "u" else redo(desk)
-
-
-def odd_call(chance):
-    desk = chance.choice((0, 1, 7, 8, GREATEST))
-    number = chance.choice((0, 1, 2, 119, 120, GREATEST))
-    return chance.choice((
-        begin(chance.choice((0, 1, 2, 8, 9, GREATEST))),
-        move(desk, chance.choice((0, 1, 2, 63, 64)), chance.choice((0, 1, 2, 63, 64)),
-             chance.choice((0, MOST_LABEL, MOST_LABEL + 1))),
-        back(desk, number), again(desk, number), undo(desk), redo(desk)))
-
-
-class AgainstTheReckoning(unittest.TestCase):
-    def test_made_lists(self):
-        for seed in range(400):
-            chance = random.Random(seed)
-            desks = chance.randint(1, 3)
-            calls = [begin(desks)] + [some_call(chance, desks, 40) for step in range(chance.randint(1, 90))]
-            with self.subTest(seed=seed):
-                self.assertEqual(ask(*calls), reckon(calls))
-
-    def test_made_lists_with_odd_calls(self):
-        for seed in range(400):
-            chance = random.Random(seed)
-            calls = [odd_call(chance) if chance.randrange(3) == 0 else some_call(chance, 2, 20) for step in range(60)]
-            with self.subTest(seed=seed):
-                self.assertEqual(ask(*calls), reckon(calls))
-
-    def test_made_lists_past_the_last_deed(self):
-        for seed in range(20):
-            chance = random.Random(seed)
-            calls = [begin(2)] + [some_call(chance, 2, 120) for step in range(199)]
-            with self.subTest(seed=seed):
-                self.assertEqual(ask(*calls), reckon(calls))
+from tests.helper import (FIRST_SIX, GREATEST, ask, assert_tree, back, begin, last, move, plain_tree, redo, some_call,
+                          some_move, undo)
 
 
 class TheTreeOfTheOthers(unittest.TestCase):
@@ -121,7 +71,7 @@ class UndoneAndDoneAgain(unittest.TestCase):
     def test_both_tell_the_same_anywhere(self):
         for seed in range(60):
             chance = random.Random(seed)
-            calls = [begin(2)] + [some_call(chance, 2, 20) for step in range(30)]
+            calls = [begin(2)] + [some_call(chance, 2, 20, FIRST_SIX) for step in range(30)]
             rows = ask(*calls, undo(0), redo(0), undo(0), redo(0))
             with self.subTest(seed=seed):
                 if rows[-4] != [-3]:

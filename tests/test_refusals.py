@@ -2,7 +2,8 @@
 
 import unittest
 
-from tests.helper import (GREATEST, MOST_LABEL, again, ask, back, begin, last, move, redo, undo)
+from tests.helper import (GREATEST, MOST_LABEL, again, ask, back, begin, deeds, last, meet, move, redo, same, tell, tree,
+                          undo, would)
 
 
 def filled(deeds):
@@ -38,6 +39,27 @@ class TooManyDeeds(unittest.TestCase):
         self.assertEqual(ask(*calls)[-2:], [[119, 1], [-5]])
 
 
+class GrantedWhenTheHouseIsFull(unittest.TestCase):
+    def test_the_six_calls_that_do_no_deed(self):
+        rows = ask(*filled(120), undo(0), would(0, 117), tell(119, 1), meet(1, 0), tree(1), deeds(1), same(0, 1))
+        numbers = [part for number in range(118) for part in (number, 1)]
+        self.assertEqual(rows[121:], [[-5], [1, 5], [1], [120, 119, 0], [2, 5, 1, 0, 7, 1, 116],
+                                      [119] + numbers + [118, 0], [1, 1]])
+
+    def test_before_and_behind_a_refused_deed_they_tell_the_same(self):
+        shown = [would(0, 117), tree(0), deeds(0), same(0, 1), tell(118, 0)]
+        rows = ask(*filled(120), *shown, move(0, 9, 0), undo(0), redo(0), move(1, 9, 0), *shown)
+        self.assertEqual(rows[-9:-5], [[-5]] * 4)
+        self.assertEqual(rows[-14:-9], rows[-5:])
+
+    def test_each_is_refused_as_ever(self):
+        for call, told in ((would(2, 117), -2), (would(1, 117), -3), (would(0, 119), -3), (would(0, 120), -3),
+                           (would(0, 118), -4), (tell(120, 0), -2), (tell(119, 2), -2), (meet(0, 2), -2), (meet(2, 0), -2),
+                           (tree(2), -2), (deeds(2), -2), (same(0, 2), -2), (same(2, 0), -2)):
+            with self.subTest(call=call):
+                self.assertEqual(last(*filled(120), call), [told])
+
+
 class TheOneToldFirst(unittest.TestCase):
     def test_where_the_house_is_full(self):
         ahead = filled(120)
@@ -62,12 +84,17 @@ class TheOneToldFirst(unittest.TestCase):
 
 class AsItWas(unittest.TestCase):
     def test_refused_calls_between_the_others_change_no_answer(self):
-        calls = [begin(2), move(0, 5, 0, 1), move(1, 6, 0, 2), move(0, 6, 5, 3), move(0, 7, 6, 4), back(0, 2),
-                 move(1, 5, 6, 5), undo(0), redo(0), redo(0), again(0, 2), undo(1), redo(1), undo(0), move(0, 8, 7)]
+        calls = [begin(2), move(0, 5, 0, 1), move(1, 6, 0, 2), move(0, 6, 5, 3), tell(0, 1), move(0, 7, 6, 4), back(0, 2),
+                 move(1, 5, 6, 5), tree(1), undo(0), redo(0), meet(0, 1), redo(0), again(0, 2), deeds(0), undo(1), redo(1),
+                 would(1, 1), undo(0), same(0, 1), move(0, 8, 7), meet(1, 0), deeds(1), tree(0), same(0, 1)]
         refused = [begin(0), begin(9), begin(GREATEST), move(8, 5, 0), move(0, 0, 0), move(0, 1, 0), move(0, 64, 0),
                    move(0, 5, 64), move(0, 5, 0, MOST_LABEL + 1), back(8, 0), again(8, 0), undo(8), redo(8),
                    back(0, 1), again(0, 1), back(1, 0), again(1, 0), back(0, 99), again(0, 99),
-                   back(0, GREATEST), again(1, GREATEST), back(0, 4), again(0, 4), undo(5), redo(5)]
+                   back(0, GREATEST), again(1, GREATEST), back(0, 4), again(0, 4), undo(5), redo(5),
+                   would(2, 0), would(GREATEST, 0), would(0, 1), would(1, 0), would(0, 99), would(0, 4), would(1, GREATEST),
+                   tell(99, 0), tell(GREATEST, 1), tell(0, 2), tell(0, GREATEST), tell(99, 2), meet(0, 2), meet(2, 0),
+                   meet(1, GREATEST), meet(GREATEST, 1), tree(2), tree(GREATEST), deeds(2), deeds(GREATEST),
+                   same(0, 2), same(2, 0), same(GREATEST, GREATEST)]
         told = ask(*calls)
         for place in range(1, len(calls) + 1):
             for call in refused:
