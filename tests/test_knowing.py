@@ -68,7 +68,8 @@ class OutOfOrder(unittest.TestCase):
                                     [2], [1, 0, 1], [3], [1, 0, 1]])
 
     def test_every_order_ends_alike(self):
-        calls = [begin(3), move(0, 5, 0, 1), meet(0, 1), move(1, 6, 5, 2), undo(0), move(0, 7, 6, 3), again(0, 0), meet(0, 1)]
+        calls = [begin(3), move(0, 5, 0, 1), meet(0, 1), move(1, 6, 5, 2), undo(0), move(0, 7, 6, 3),
+                 again(0, 0), meet(0, 1)]
         shown = ask(*calls, deeds(0), tree(0))[-2:]
         self.assertEqual(shown, [[3, 0, 1, 1, 1, 3, 1], [3, 5, 1, 1, 6, 2, 2, 7, 3, 3]])
         for order in itertools.permutations(range(5)):
